@@ -1,0 +1,1 @@
+"""Chessclock: clocks for games of two, exact to the tick."""
