@@ -45,6 +45,11 @@ def is_endless(stage):
     return is_main(stage) and stage[1] is None
 
 
+# Main and over tell their ticks in the same place.
+def ticks_of(stage):
+    return stage[2]
+
+
 def is_good_stage(stage):
     if not isinstance(stage, tuple) or len(stage) == 0:
         return False

@@ -1,6 +1,7 @@
-"""The rules of the language that a machine can see at once: files, signs, sizes, words, imports, statements."""
+"""The rules of the language that a machine can see at once: files, signs, sizes, words, names, imports, statements."""
 
 import ast
+import builtins
 import pathlib
 import re
 import unittest
@@ -17,6 +18,7 @@ FORBIDDEN = (
     ast.GeneratorExp, ast.NamedExpr, ast.Starred, ast.Div, ast.MatMult,
 )
 METHODS = ("__init__", "__eq__", "__repr__", "__str__", "__len__")
+TAKEN = {name for kind in (str, int, list, dict, set, bytes) for name in dir(kind)}
 
 
 def files():
@@ -25,6 +27,23 @@ def files():
 
 def trees():
     return [(path.name, ast.parse(path.read_text("utf-8"))) for path in files()]
+
+
+def nodes(kind):
+    return [(name, node) for name, tree in trees() for node in ast.walk(tree) if isinstance(node, kind)]
+
+
+def bound_names():
+    bound = [(name, node.id) for name, node in nodes(ast.Name) if isinstance(node.ctx, ast.Store)]
+    return bound + [(name, node.arg) for name, node in nodes(ast.arg)]
+
+
+def methods():
+    return [part.name for _, node in nodes(ast.ClassDef) for part in node.body if isinstance(part, ast.FunctionDef)]
+
+
+def object_values():
+    return [node.attr for _, node in nodes(ast.Attribute) if isinstance(node.ctx, ast.Store)]
 
 
 class FormTest(unittest.TestCase):
@@ -76,6 +95,41 @@ class FormTest(unittest.TestCase):
                     self.assertTrue(node.name in METHODS or not node.name.startswith("_"), f"{name}: {node.name}")
                 if isinstance(node, (ast.FunctionDef, ast.ClassDef)):
                     self.assertEqual(node.decorator_list, [], f"{name}: {node.name}")
+
+    def test_a_class_has_methods_alone_and_one_base_at_most(self):
+        for name, node in nodes(ast.ClassDef):
+            self.assertLessEqual(len(node.bases), 1, f"{name}: {node.name}")
+            self.assertEqual(node.keywords, [], f"{name}: {node.name}")
+            names = [part.name for part in node.body if isinstance(part, ast.FunctionDef)]
+            self.assertEqual(len(names), len(set(names)), f"{name}: {node.name}")
+            for part in node.body:
+                self.assertIsInstance(part, (ast.FunctionDef, ast.Pass), f"{name}: {node.name}")
+
+    def test_no_name_is_a_method_and_a_value_or_one_of_python_s_own_values(self):
+        self.assertEqual(set(methods()) & set(object_values()), set())
+        own = set(methods()) - set(METHODS) | set(object_values())
+        self.assertEqual(own & TAKEN, set())
+
+    def test_names_are_plain_and_none_of_python_s_own(self):
+        for name, bound in bound_names():
+            self.assertRegex(bound, r"\A[A-Za-z][A-Za-z0-9_]*\Z", name)
+            self.assertFalse(hasattr(builtins, bound), f"{name}: {bound}")
+
+    def test_parameters_are_plain(self):
+        for name, node in nodes(ast.arguments):
+            self.assertEqual([node.vararg, node.kwarg, node.kwonlyargs, node.posonlyargs], [None, None, [], []], name)
+
+    def test_is_stands_beside_none_true_and_false_alone(self):
+        for name, node in nodes(ast.Compare):
+            if any(isinstance(sign, (ast.Is, ast.IsNot)) for sign in node.ops):
+                self.assertIsInstance(node.comparators[-1], ast.Constant, name)
+                self.assertIn(node.comparators[-1].value, (None, True, False), name)
+
+    def test_what_stands_by_itself_is_a_call(self):
+        for name, tree in trees():
+            rows = [node for node in ast.walk(tree) if isinstance(node, ast.Expr) and node != tree.body[0]]
+            for node in rows:
+                self.assertIsInstance(node.value, ast.Call, name)
 
 
 if __name__ == "__main__":
